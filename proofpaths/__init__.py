@@ -1,0 +1,1 @@
+"""Trips through proof structures; proofpaths.structure.answers answers the calls."""
