@@ -88,7 +88,7 @@ class Trip(unittest.TestCase):
 
     def test_over_a_cut(self):
         self.assertEqual(answer_to(CUT, trip_call(0, [0, 0])), [4])
-        # 4 6 13 14 9 8 15 11, and again through itself: 5 10 12 7
+        # The trips are 4 6 13 14 9 8 15 11 and 5 10 12 7.
         self.assertEqual(answer_to(CUT, trip_call(4, [0, 0])), [8])
         self.assertEqual(answer_to(CUT, trip_call(5, [0, 0])), [4])
 
