@@ -12,6 +12,8 @@ class Points:
     def __init__(self, parts):
         # The node at each point.
         self.nodes = []
+        # The number of the structure's formula that the point lies in.
+        self.owners = []
         # The junction that is of the point's formula and another one.
         self.below = []
         # 0 or 1, whether the point is the first or the second one there.
@@ -25,28 +27,32 @@ class Points:
         # For a whole formula: the one up through which it goes on.
         self.turns = []
         self.junction_count = 0
-        roots = []
+        self.conclusion_count = len(parts.conclusions)
+        # By the formula's number: the point that is the whole formula.
+        self.roots = []
         for formula in parts.formulas():
-            roots.append(self.lay(formula))
-        self.join_cuts(roots[len(parts.conclusions):])
+            self.lay(formula)
+        self.join_cuts(self.roots[self.conclusion_count:])
         self.join_leaves(parts.links)
 
     def lay(self, formula):
-        """Gives the formula's nodes their points, and tells the formula's own point."""
+        """Gives the formula's nodes their points."""
         root = len(self.nodes)
+        owner = len(self.roots)
         # Where the points to come belong, the nearest one last.
         awaited = [(-1, -1)]
         for node in formula:
             point = len(self.nodes)
             spot = awaited.pop()
             self.add_point(node, spot[0], spot[1])
+            self.owners.append(owner)
             if spot[1] == 1:
                 self.seconds[spot[0]] = point
             if is_junction(node):
                 awaited.append((point, 1))
                 awaited.append((point, 0))
         self.turns[root] = root
-        return root
+        self.roots.append(root)
 
     def add_point(self, node, junction, side):
         self.nodes.append(node)
@@ -67,10 +73,24 @@ class Points:
             self.turns[roots[at + 1]] = roots[at]
 
     def join_leaves(self, links):
-        leaves = [point for point, node in enumerate(self.nodes) if not is_junction(node)]
+        leaves = self.leaf_points()
         for pair in links:
             self.partners[leaves[pair[0]]] = leaves[pair[1]]
             self.partners[leaves[pair[1]]] = leaves[pair[0]]
+
+    def leaf_points(self):
+        """The points of the leaves, in their order."""
+        return [point for point, node in enumerate(self.nodes) if not is_junction(node)]
+
+    def junction_points(self, kind):
+        """The points of all tensors or of all pars."""
+        return [point for point, node in enumerate(self.nodes) if node[0] == kind]
+
+    def has_conclusion(self, number):
+        return 0 <= number < self.conclusion_count
+
+    def has_passage(self, number):
+        return 0 <= number < self.passage_count()
 
     def passage_count(self):
         return 2 * len(self.nodes)
@@ -87,9 +107,7 @@ class Points:
     def behind_up(self, point, switching):
         if not is_junction(self.nodes[point]):
             return down(self.partners[point])
-        if switching[self.switches[point]] == 0:
-            return up(point + 1)
-        return up(self.seconds[point])
+        return up(self.part(point, switching[self.switches[point]]))
 
     def behind_down(self, point, switching):
         junction = self.below[point]
@@ -100,12 +118,13 @@ class Points:
             return up(self.beside(point)) if switched else down(junction)
         return down(junction) if switched else up(point)
 
+    def part(self, junction, side):
+        """The first formula that a junction is of, for side 0; the second one, for side 1."""
+        return junction + 1 if side == 0 else self.seconds[junction]
+
     def beside(self, point):
         """The other one of the two formulas that the junction below is of."""
-        junction = self.below[point]
-        if self.sides[point] == 0:
-            return self.seconds[junction]
-        return junction + 1
+        return self.part(self.below[point], 1 - self.sides[point])
 
     def trip(self, passage, switching):
         """The passages of the trip, in order."""

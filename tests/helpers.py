@@ -5,9 +5,16 @@ import re
 from proofpaths.structure import answers
 
 
+def bytes_of(text):
+    return list(text) if isinstance(text, (list, bytes)) else list(text.encode("latin-1"))
+
+
+def row(numbers):
+    return [len(numbers)] + list(numbers)
+
+
 def set_call(text):
-    data = list(text) if isinstance(text, (list, bytes)) else list(text.encode("latin-1"))
-    return [0, len(data)] + data
+    return [0] + row(bytes_of(text))
 
 
 def form_call():
@@ -19,15 +26,40 @@ def size_call():
 
 
 def next_call(passage, switching):
-    return [3, passage, len(switching)] + list(switching)
+    return [3, passage] + row(switching)
 
 
 def trip_call(passage, switching):
-    return [4, passage, len(switching)] + list(switching)
+    return [4, passage] + row(switching)
 
 
 def path_call(switching):
-    return [5, len(switching)] + list(switching)
+    return [5] + row(switching)
+
+
+def check_call():
+    """The call that is named test."""
+    return [6]
+
+
+def bad_call():
+    return [7]
+
+
+def token_call(conclusion, place):
+    return [8, conclusion] + row(place)
+
+
+def play_call(conclusion, other_conclusion, entered, text, place):
+    return [9, conclusion, other_conclusion, entered] + row(bytes_of(text)) + row(place)
+
+
+def place_call(leaf):
+    return [10, leaf]
+
+
+def draw_call():
+    return [11]
 
 
 def ask(*calls):
@@ -76,3 +108,20 @@ def read_as(formula):
     half = len(re.findall("[a-z][a-z0-9]*", formula.replace("-o", " ")))
     links = " ".join("%d-%d" % (leaf, leaf + half) for leaf in range(half))
     return form_after("%s, ~(%s) ; ; %s" % (formula, formula, links)).split(",")[0]
+
+
+def balanced(name, count):
+    """A formula of this many atoms that is no deeper than it must be."""
+    if count == 1:
+        return name
+    return "(%s)*(%s)" % (balanced(name, count // 2), balanced(name, count - count // 2))
+
+
+def links_text(pairs):
+    """The links in their form, whichever way round the pairs are told."""
+    return " ".join("%d-%d" % pair for pair in sorted((min(pair), max(pair)) for pair in pairs))
+
+
+def straight_links(half, begin=0):
+    """Each of the leaves from begin on with the one that lies that many behind it."""
+    return " ".join("%d-%d" % (leaf, leaf + half) for leaf in range(begin, begin + half))

@@ -3,6 +3,7 @@
 A formula is ("atom", name, turned) or (sign, first, second).
 """
 
+import itertools
 import re
 
 TOKEN = re.compile(r"[a-z0-9]+|-o|[~*|()]")
@@ -242,3 +243,164 @@ class Structure:
             met.append(at)
             at = self.behind(at, switching)
         return met
+
+    def all_long(self):
+        """As the parenthesis of the document says it: of the trip from passage 0, with every switching."""
+        return self.points != [] and self.first_bad() is None
+
+    def first_bad(self):
+        """The first switching with which the trip from passage 0 is not long, with the trip's length; or None."""
+        for switching in itertools.product((0, 1), repeat=len(self.junctions)):
+            length = len(self.trip(0, switching))
+            if length < 2 * len(self.points):
+                return list(switching), length
+        return None
+
+    def atoms_in(self, formula):
+        return [point for point in self.points if point[0] == formula and self.trees[point][0] == "atom"]
+
+    def is_conclusion(self, number):
+        return number in range(len(self.conclusions))
+
+    def is_place_of_atom(self, conclusion, place):
+        return self.is_conclusion(conclusion) and (conclusion, tuple(place)) in self.partner
+
+    def send(self, point):
+        """Where a token put in at this atom comes out, and the cuts that it went over, one after the other."""
+        after = self.partner[point]
+        if self.is_conclusion(after[0]):
+            return after, []
+        across = self.opposite(after[0])
+        count = self.atoms_in(after[0]).index(after)
+        out, cuts = self.send(self.atoms_in(across)[count])
+        return out, [(after[0], across)] + cuts
+
+    def draws_together(self):
+        clusters = [{point} for point in self.points]
+        for first, second in self.edges():
+            clusters = united(clusters, first, second)
+            if clusters is None:
+                return False
+        pars = [point for point in self.points if self.trees[point][0] == "|"]
+        while True:
+            ready = [par for par in pars if any(set(self.parts_of(par)) <= cluster for cluster in clusters)]
+            if ready == []:
+                return pars == [] and len(clusters) == 1
+            clusters = united(clusters, ready[-1], self.parts_of(ready[-1])[0])
+            if clusters is None:
+                return False
+            pars.remove(ready[-1])
+
+    def parts_of(self, junction):
+        return [(junction[0], junction[1] + (side,)) for side in (0, 1)]
+
+    def edges(self):
+        tensors = [point for point in self.points if self.trees[point][0] == "*"]
+        found = [(tensor, part) for tensor in tensors for part in self.parts_of(tensor)]
+        atoms = [point for point in self.points if self.trees[point][0] == "atom"]
+        found += [(atoms[first], atoms[second]) for first, second in self.links]
+        begin = len(self.conclusions)
+        return found + [((begin + 2 * cut, ()), (begin + 2 * cut + 1, ())) for cut in range(len(self.cuts))]
+
+
+def united(clusters, first, second):
+    """The clusters with those of two points made one; None if they are one already."""
+    ends = [cluster for cluster in clusters if first in cluster or second in cluster]
+    if len(ends) == 1:
+        return None
+    return [cluster for cluster in clusters if cluster not in ends] + [ends[0] | ends[1]]
+
+
+def play(held, other, i, j, point):
+    """Which structure the token comes out of, the atom there, how often it went over."""
+    structures = (held, other)
+    met = (i, j)
+    side = 0
+    often = 0
+    while True:
+        point = structures[side].send(point)[0]
+        if point[0] != met[side]:
+            return side, point, often
+        side = 1 - side
+        often += 1
+        point = (met[side], point[1])
+
+
+class Line:
+    """The calls on one object: each method answers as the call of its name does."""
+
+    def __init__(self):
+        self.held = read_structure("a, ~a ; ; 0-1")
+
+    def set(self, text):
+        structure = read_structure(text)
+        if isinstance(structure, int):
+            return [structure]
+        self.held = structure
+        return [len(structure.leaves)]
+
+    def form(self):
+        form = list(self.held.form().encode())
+        return [len(form)] + form
+
+    def size(self):
+        return [len(self.held.points), len(self.held.junctions), 2 * len(self.held.points)]
+
+    def refusal(self, passage, switching):
+        if passage not in range(2 * len(self.held.points)):
+            return -4
+        if len(switching) != len(self.held.junctions) or not set(switching) <= {0, 1}:
+            return -1
+        return 0
+
+    def next(self, passage, switching):
+        return [self.refusal(passage, switching) or self.held.behind(passage, switching)]
+
+    def trip(self, passage, switching):
+        return [self.refusal(passage, switching) or len(self.held.trip(passage, switching))]
+
+    def path(self, switching):
+        if self.refusal(0, switching):
+            return [self.refusal(0, switching)]
+        trip = self.held.trip(0, switching)
+        return [len(trip)] + trip
+
+    def test(self):
+        return [-7] if len(self.held.junctions) > 8 else [int(self.held.all_long())]
+
+    def bad(self):
+        if len(self.held.junctions) > 8:
+            return [-7]
+        if self.held.points == [] or self.held.first_bad() is None:
+            return [-4]
+        switching, length = self.held.first_bad()
+        return [len(switching)] + switching + [length]
+
+    def token(self, i, place):
+        if not self.held.is_place_of_atom(i, place):
+            return [-4]
+        out, cuts = self.held.send((i, tuple(place)))
+        return [out[0], len(out[1]), *out[1], len(cuts)]
+
+    def play(self, i, j, c, text, place):
+        other = read_structure(text)
+        if isinstance(other, int):
+            return [other]
+        if not (self.held.is_conclusion(i) and other.is_conclusion(j) and self.held.is_conclusion(c)):
+            return [-4]
+        if c == i or not self.held.is_place_of_atom(c, place):
+            return [-4]
+        if other.conclusions[j] != dual(self.held.conclusions[i]):
+            return [-8]
+        side, out, often = play(self.held, other, i, j, (c, tuple(place)))
+        return [side, out[0], len(out[1]), *out[1], often]
+
+    def place(self, leaf):
+        atoms = [point for point in self.held.points if self.held.trees[point][0] == "atom"]
+        if leaf not in range(len(atoms)):
+            return [-4]
+        formula, place = atoms[leaf]
+        return [formula, len(place), *place]
+
+    def draw(self):
+        return [int(self.held.draws_together())]

@@ -25,6 +25,8 @@ rstrip setdefault split splitlines startswith strip update upper values zfill bi
 WORDS_OUT = re.compile(r"\b(type|typing|typing_extensions|enum|Enum|IntEnum|StrEnum|Flag|IntFlag|Generic|Protocol|ABC|"
                        r"ABCMeta|namedtuple|NamedTuple|TypedDict|TYPE_CHECKING|abstractmethod)\b|"
                        r"dataclass|overload|contextmanager")
+WALKED = ("zip", "enumerate", "reversed", "range")
+WALKERS = ("list", "tuple", "dict", "sorted", "sum", "any", "all", "enumerate", "zip", "min", "max")
 NAMES_OUT = {"register", "mro", "elements", "open", "input", "version_info", "with_traceback", "add_note", "format",
              "format_map"}
 
@@ -133,6 +135,45 @@ class Language(unittest.TestCase):
             for operator, right in zip(node.ops, node.comparators):
                 if isinstance(operator, (ast.Is, ast.IsNot)):
                     self.assertTrue(isinstance(right, ast.Constant) and right.value in (None, True, False), where)
+
+    def test_walked_at_once(self):
+        for where, node, parent in trees_with_parents():
+            if called_name(node) in WALKED or called_method(node) in ("items", "keys", "values"):
+                on_the_spot = isinstance(parent, (ast.For, ast.comprehension)) and parent.iter is node
+                within = called_name(parent) in WALKERS and parent.args[0] is node
+                self.assertTrue(on_the_spot or within, where)
+
+    def test_sets_are_not_kept(self):
+        for where, node, parent in trees_with_parents():
+            self.assertNotIsInstance(node, ast.Set, where)
+            if called_name(node) in ("set", "frozenset"):
+                self.assertTrue(called_name(parent) in ("sorted", "len") or isinstance(parent, ast.Compare), where)
+
+    def test_numbers_and_texts(self):
+        for where, node in self.each_node(ast.Constant):
+            if isinstance(node.value, str):
+                self.assertNotIn("%", node.value, where)
+        for where, node in self.each_node(ast.BinOp):
+            if isinstance(node.op, ast.Pow):
+                self.assertIsInstance(node.right, ast.Constant, where)
+
+
+def trees_with_parents():
+    found = []
+    for path, tree in trees().items():
+        for parent in ast.walk(tree):
+            for node in ast.iter_child_nodes(parent):
+                found.append(("%s:%s" % (path.name, getattr(node, "lineno", "")), node, parent))
+    return found
+
+
+def called_name(node):
+    """The name that is called there, if the node is such a call."""
+    return node.func.id if isinstance(node, ast.Call) and isinstance(node.func, ast.Name) else None
+
+
+def called_method(node):
+    return node.func.attr if isinstance(node, ast.Call) and isinstance(node.func, ast.Attribute) else None
 
 
 if __name__ == "__main__":

@@ -2,19 +2,8 @@
 
 import unittest
 
-from helpers import ask, form_after, form_call, is_formula, path_call, read_as, set_answer, set_call, size_call
-
-
-def balanced(name, count):
-    """A formula of this many atoms that is no deeper than it must be."""
-    if count == 1:
-        return name
-    return "(%s)*(%s)" % (balanced(name, count // 2), balanced(name, count - count // 2))
-
-
-def straight_links(half):
-    """Each of the first leaves with the one that lies that many behind it."""
-    return " ".join("%d-%d" % (leaf, leaf + half) for leaf in range(half))
+from helpers import (ask, balanced, form_after, form_call, is_formula, path_call, read_as, set_answer, set_call,
+                     size_call, straight_links)
 
 
 class Names(unittest.TestCase):
@@ -216,8 +205,8 @@ class Refusals(unittest.TestCase):
 
     def test_leaves(self):
         thirty = balanced("a", 30)
-        self.assertEqual(set_answer("%s,~(%s);%s;%s" % (thirty, thirty, thirty, straight_links(30) + " " + " ".join(
-            "%d-%d" % (leaf, leaf + 30) for leaf in range(60, 90)))), 120)
+        links = straight_links(30) + " " + straight_links(30, 60)
+        self.assertEqual(set_answer("%s,~(%s);%s;%s" % (thirty, thirty, thirty, links)), 120)
         text = "%s,~(%s),b,~b;%s;%s" % (thirty, thirty, thirty, straight_links(30))
         self.assertEqual(set_answer(text), -5)
         forty = balanced("a", 40)
